@@ -136,3 +136,104 @@ func copyBook(b impl.GiveBook) impl.GiveBook {
 	}
 	return b
 }
+
+// What the document says of two lists of boxes.
+func listsAreNear(a []impl.GiveBox, b []impl.GiveBox) bool {
+	for _, one := range a {
+		for _, other := range b {
+			near := distance(one.X, other.X) < 2 && distance(one.Y, other.Y) < 2
+			if near && boxIsOk(one) && boxIsOk(other) && levelInCommon(one, other) && tickInCommon(one, other) {
+				return true
+			}
+		}
+	}
+	return false
+}
+
+func nearToSomebodyElse(b impl.GiveBook, name string, tube []impl.GiveBox) bool {
+	return slices.ContainsFunc(b.Held, func(h impl.GiveHeld) bool {
+		return h.Name != name && (listsAreNear(tube, h.Tube) || listsAreNear(tube, h.Next))
+	})
+}
+
+func laterBy(tube []impl.GiveBox, ticks int) []impl.GiveBox {
+	later := slices.Clone(tube)
+	for place := range later {
+		later[place].In += ticks
+		later[place].Out += ticks
+	}
+	return later
+}
+
+// Numbers that are the same ones at each run.
+type dice uint64
+
+func (d *dice) roll(sides int) int {
+	*d = *d*6364136223846793005 + 1442695040888963407
+	return int(uint64(*d)>>33) % sides
+}
+
+// A tube that is ok to one of the fields, of at most so many boxes, built from its end on the ground.
+func (d *dice) tubeTo(fields []impl.GiveField, most int, from int) []impl.GiveBox {
+	field := fields[d.roll(len(fields))]
+	tube := []impl.GiveBox{{X: field.X, Y: field.Y, High: d.roll(3)}}
+	for range d.roll(most) {
+		next := tube[0]
+		shared := next.Low + d.roll(next.High-next.Low+1)
+		tube = slices.Insert(tube, 0, impl.GiveBox{
+			X:    min(15, max(0, next.X+d.roll(3)-1)),
+			Y:    min(15, max(0, next.Y+d.roll(3)-1)),
+			Low:  max(0, shared-d.roll(3)),
+			High: min(6, shared+d.roll(3)),
+		})
+	}
+	in, out := from, from+d.roll(6)
+	for place := range tube {
+		tube[place].In, tube[place].Out = in, out
+		in += d.roll(out - in + 2)
+		out = max(in, out+d.roll(5))
+	}
+	return tube
+}
+
+// A book that is ok: of those who ask for a tube, or for a Next, all stay in it who come near to nobody.
+func (d *dice) book(asking int, most int, spread int) impl.GiveBook {
+	b := impl.GiveBook{Fields: twoFields()}
+	for _, name := range alphabet(asking) {
+		held := impl.GiveHeld{Name: name, Tube: d.tubeTo(b.Fields, most, d.roll(spread))}
+		if nearToSomebodyElse(b, name, held.Tube) {
+			continue
+		}
+		if next := d.tubeTo(b.Fields, most, d.roll(spread)); d.roll(2) == 0 && !nearToSomebodyElse(b, name, next) {
+			held.Next = next
+		}
+		b.Held = append(b.Held, held)
+	}
+	return b
+}
+
+// The book with each of its lists the beginning of a longer one, and what stands in these, to be held against itself later.
+func withRoom(b impl.GiveBook) (impl.GiveBook, func() impl.GiveBook) {
+	longer := copyBook(b)
+	mark := impl.GiveBox{X: -5, Y: -6, Low: -7, High: -8, In: -9, Out: -10}
+	for place := range longer.Held {
+		longer.Held[place].Tube = append(longer.Held[place].Tube, mark, mark)
+		longer.Held[place].Next = append(longer.Held[place].Next, mark, mark)
+	}
+	rooms := slices.Clone(longer.Held)
+	longer.Fields = append(longer.Fields, impl.GiveField{Name: "mark", X: -5, Y: -6})
+	longer.Held = append(longer.Held, impl.GiveHeld{Name: "mark"})
+	short := impl.GiveBook{Now: b.Now, Fields: longer.Fields[:len(b.Fields)], Held: longer.Held[:len(b.Held)]}
+	for place := range short.Held {
+		short.Held[place].Tube = rooms[place].Tube[:len(b.Held[place].Tube)]
+		short.Held[place].Next = rooms[place].Next[:len(b.Held[place].Next)]
+	}
+	return short, func() impl.GiveBook {
+		all := copyBook(longer)
+		for place := range rooms {
+			all.Held[place].Tube = append(all.Held[place].Tube, rooms[place].Tube...)
+			all.Held[place].Next = append(all.Held[place].Next, rooms[place].Next...)
+		}
+		return all
+	}
+}
