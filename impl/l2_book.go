@@ -129,11 +129,15 @@ func tubesOk(b GiveBook) bool {
 		if len(holder.Tube) == 0 {
 			return false
 		}
-		if len(tube) > 0 && !(GiveTubeOk(b.Fields, tube) && startsFrom(tube, b.Now)) {
+		if len(tube) > 0 && !tubeOkIn(b, tube) {
 			return false
 		}
 	}
 	return true
+}
+
+func tubeOkIn(b GiveBook, tube []GiveBox) bool {
+	return GiveTubeOk(b.Fields, tube) && startsFrom(tube, b.Now)
 }
 
 func startsFrom(tube []GiveBox, now int) bool {
