@@ -39,7 +39,7 @@ func stayOnB(in int, out int) []impl.GiveBox {
 	return []impl.GiveBox{{X: 4, Y: 2, In: in, Out: out}}
 }
 
-// To each of three, while the others have what they have.
+// Promise 7, to each of three, while the others have what they have.
 func TestAmendKeepsBoth(t *testing.T) {
 	for place := range 3 {
 		for _, tube := range [][]impl.GiveBox{stayOnB(10, 99), stayOnB(10, 10), laterBy(plainTube(), 100), stayOnA(70, 10000), laterBy(tubeOfSize(40), 70)} {
@@ -172,7 +172,7 @@ func TestAmendAndHearOfNobody(t *testing.T) {
 	}
 }
 
-// Meanwhile nothing more is sent, not even the same or what is held.
+// Promise 7: meanwhile nothing more is sent, not even the same or what is held.
 func TestAmendWaitsForTheAnswer(t *testing.T) {
 	for _, held := range fullBook().Held {
 		for _, tube := range [][]impl.GiveBox{held.Tube, held.Next, stayOnB(20, 30), stayOnA(10, 99)} {
@@ -272,7 +272,7 @@ func TestHearWhatWasTaken(t *testing.T) {
 	}
 }
 
-// What was not taken is free again, and what was held, if another one was taken.
+// Promise 7: what was not taken is free again, and what was held, if another one was taken.
 func TestWhatIsLetGoIsFree(t *testing.T) {
 	b := fullBook()
 	for _, took := range []bool{true, false} {

@@ -82,7 +82,7 @@ func namedBy(e impl.GiveEvent) string {
 	return ""
 }
 
-// No two come too near, whichever of their tubes each flies.
+// Promise 1: no two come too near, whichever of their tubes each flies.
 func checkApart(t *testing.T, b impl.GiveBook) {
 	t.Helper()
 	for place, one := range b.Held {
@@ -98,7 +98,7 @@ func checkApart(t *testing.T, b impl.GiveBook) {
 	}
 }
 
-// Each Tube and each Next ends on a runway, on the ground.
+// Promise 2: each Tube and each Next ends on a runway, on the ground.
 func checkLands(t *testing.T, b impl.GiveBook) {
 	t.Helper()
 	for _, held := range b.Held {
@@ -113,7 +113,7 @@ func checkLands(t *testing.T, b impl.GiveBook) {
 	}
 }
 
-// As it is now, and from every tick on.
+// Promise 2, as it is now, and from every tick on.
 func checkLandsFromEveryTick(t *testing.T, b impl.GiveBook) {
 	t.Helper()
 	for _, held := range b.Held {
@@ -135,7 +135,7 @@ func checkLandsFromEveryTick(t *testing.T, b impl.GiveBook) {
 	}
 }
 
-// Who is not named keeps what they hold from Now on, and nobody else comes in.
+// Promise 3: who is not named keeps what they hold from Now on, and nobody else comes in.
 func checkOthersKeep(t *testing.T, before impl.GiveBook, e impl.GiveEvent, after impl.GiveBook) {
 	t.Helper()
 	var want []impl.GiveHeld
@@ -192,7 +192,7 @@ func TestLongRowsOfEvents(t *testing.T) {
 	}
 }
 
-// Whoever is sent another tube may fly it at once, or never, and is heard of late, or never:
+// Promises 1 and 7: whoever is sent another tube may fly it at once, or never, and is heard of late, or never:
 // what they fly is held, and nobody flies near to anybody.
 func TestWhateverAnybodyFlies(t *testing.T) {
 	var changed, silent int

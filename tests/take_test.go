@@ -225,7 +225,7 @@ func TestTakeOfAWishThatIsNotOk(t *testing.T) {
 	checkTake(t, "without one of the runways", one, wishOf("x"), one, impl.GiveChoice{}, 2)
 }
 
-// Given once, it is not given again, not even to be better or the same.
+// Promise 6: given once, it is not given again, not even to be better or the same.
 func TestTakeGivesOnce(t *testing.T) {
 	b := takeBook()
 	for _, held := range b.Held {

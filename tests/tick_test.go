@@ -170,6 +170,7 @@ func TestTickLetsSomeGo(t *testing.T) {
 	}
 }
 
+// Promise 8, its first sentence.
 func TestTicksAtOnceAndOneByOne(t *testing.T) {
 	d := dice(41)
 	for range 60 {
